@@ -1,0 +1,1 @@
+"""Traitorround: hands that agree though some of them lie."""
