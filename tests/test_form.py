@@ -190,5 +190,172 @@ class TestNames(unittest.TestCase):
                 self.assertIn(node.func.attr, METHODS | set(own), (name, node.lineno))
 
 
+def with_parents():
+    """Each node of the package with the nodes around it, the nearest first."""
+    found = []
+
+    def walk(name, node, around):
+        found.append((name, node, around))
+        for child in ast.iter_child_nodes(node):
+            walk(name, child, [node] + around)
+
+    for name, tree in trees():
+        walk(name, tree, [])
+    return found
+
+
+def is_call_of(node, names):
+    return isinstance(node, ast.Call) and isinstance(node.func, ast.Name) and node.func.id in names
+
+
+def local_names(tree):
+    names = []
+    for function in ast.walk(tree):
+        if isinstance(function, (ast.FunctionDef, ast.Lambda)):
+            for node in ast.walk(function):
+                if isinstance(node, ast.arg):
+                    names.append(node.arg)
+                elif isinstance(node, ast.Name) and isinstance(node.ctx, ast.Store):
+                    names.append(node.id)
+    return names
+
+
+def own_methods():
+    return {part.name for name, node in nodes(ast.ClassDef) for part in node.body if isinstance(part, ast.FunctionDef)}
+
+
+def own_values():
+    return {node.attr for name, node in nodes(ast.Attribute) if isinstance(node.ctx, ast.Store)}
+
+
+class TestNarrowerRules(unittest.TestCase):
+    def test_locals_are_not_called_like_a_class_or_an_import(self):
+        for name, tree in trees():
+            taken = [alias.name for node in tree.body if isinstance(node, ast.ImportFrom) for alias in node.names]
+            taken = taken + [node.name for node in tree.body if isinstance(node, ast.ClassDef)]
+            for local in local_names(tree):
+                self.assertNotIn(local, taken, name)
+
+    def test_no_import_lies_idle(self):
+        for name, tree in trees():
+            read = [node.id for node in ast.walk(tree) if isinstance(node, ast.Name)]
+            for node in tree.body:
+                if isinstance(node, ast.ImportFrom):
+                    for alias in node.names:
+                        self.assertIn(alias.name, read, name)
+
+    def test_no_name_is_a_method_and_a_value(self):
+        self.assertEqual(own_methods() & own_values(), set())
+
+    def test_names_of_methods_and_values_are_free(self):
+        pythons = set()
+        for value in ("", 0, [], {}, set(), b"", (), frozenset()):
+            pythons |= set(dir(value))
+        self.assertEqual((own_methods() - set(TWO_UNDERSCORES)) & (pythons - METHODS - {"add", "discard"}), set())
+        free = set("count index title find get join lower upper split strip copy add".split())
+        self.assertEqual(own_values() & (pythons - free | {"args"}), set())
+
+    def test_names_that_are_not_used(self):
+        nowhere = set("register mro elements open input version_info with_traceback add_note format_map".split())
+        for name, node in nodes(ast.Attribute, ast.Name, ast.FunctionDef, ast.arg):
+            word = getattr(node, "attr", None) or getattr(node, "id", None) or getattr(node, "name", None)
+            self.assertNotIn(word, nowhere, name)
+
+    def test_classes_are_called_and_not_handed_on(self):
+        classes = {node.name for name, node in nodes(ast.ClassDef)}
+        for name, node, around in with_parents():
+            if isinstance(node, ast.Name) and node.id in classes:
+                near = around[0]
+                called = isinstance(near, ast.Call) and near.func is node
+                asked = is_call_of(near, ["isinstance"])
+                based = isinstance(near, (ast.ClassDef, ast.ExceptHandler))
+                above = isinstance(near, ast.Attribute) and near.attr == "__init__"
+                self.assertTrue(called or asked or based or above, (name, node.lineno))
+
+    def test_walked_at_once(self):
+        takers = ["list", "tuple", "dict", "sorted", "sum", "any", "all", "enumerate", "zip", "min", "max"]
+        for name, node, around in with_parents():
+            plain = is_call_of(node, ["zip", "enumerate", "reversed", "range"])
+            view = isinstance(node, ast.Call) and isinstance(node.func, ast.Attribute)
+            view = view and node.func.attr in ("items", "keys", "values")
+            if plain or view:
+                near = around[0]
+                walked = isinstance(near, (ast.For, ast.comprehension)) and near.iter is node
+                taken = is_call_of(near, takers) and near.args[0] is node
+                self.assertTrue(walked or taken, (name, node.lineno))
+
+    def test_sets_are_not_kept(self):
+        for name, node, around in with_parents():
+            if is_call_of(node, ["set", "frozenset"]) or isinstance(node, ast.Set):
+                near = [part for part in around if not isinstance(part, ast.BinOp)][0]
+                taken = is_call_of(near, ["sorted", "len"]) and not near.keywords
+                self.assertTrue(taken or isinstance(near, ast.Compare), (name, node.lineno))
+
+    def test_methods_are_called_where_they_stand(self):
+        for name, node, around in with_parents():
+            if isinstance(node, ast.Attribute) and node.attr in own_methods() | METHODS:
+                near = around[0]
+                called = isinstance(near, ast.Call) and near.func is node
+                self.assertTrue(called or isinstance(near, ast.keyword), (name, node.lineno))
+
+    def test_keywords(self):
+        allowed = {"sorted": ["key", "reverse"], "min": ["key", "default"], "max": ["key", "default"],
+                   "sum": ["start"], "enumerate": ["start"], "zip": ["strict"]}
+        for name, node in nodes(ast.Call):
+            for keyword in node.keywords:
+                self.assertIsInstance(node.func, ast.Name, (name, node.lineno))
+                self.assertIn(keyword.arg, allowed.get(node.func.id, []), (name, node.lineno))
+
+    def test_python_functions_are_called(self):
+        called = OWN_NAMES & set("len range enumerate zip min max sum abs sorted reversed any all divmod repr".split())
+        for name, node, around in with_parents():
+            if isinstance(node, ast.Name) and node.id in called:
+                near = around[0]
+                stands = isinstance(near, ast.Call) and near.func is node
+                self.assertTrue(stands or isinstance(near, ast.keyword), (name, node.lineno))
+
+    def test_what_a_loop_walks_is_not_changed_in_it(self):
+        changes = "append clear extend insert pop remove reverse setdefault update".split()
+        for name, loop in nodes(ast.For):
+            walked = ast.unparse(loop.iter)
+            for part in loop.body:
+                for node in ast.walk(part):
+                    if isinstance(node, ast.Call) and isinstance(node.func, ast.Attribute):
+                        if node.func.attr in changes:
+                            self.assertNotEqual(ast.unparse(node.func.value), walked, (name, node.lineno))
+
+    def test_errors_are_taken_by_their_own_names(self):
+        classes = {node.name for name, node in nodes(ast.ClassDef)}
+        for name, node in nodes(ast.ExceptHandler):
+            self.assertIsInstance(node.type, ast.Name, (name, node.lineno))
+            self.assertIn(node.type.id, classes | {"KeyError", "ZeroDivisionError", "StopIteration"}, name)
+
+    def test_texts(self):
+        for name, node in nodes(ast.Constant):
+            if isinstance(node.value, str):
+                self.assertNotIn("%", node.value, (name, node.lineno))
+        for name, node in nodes(ast.FormattedValue):
+            self.assertIsInstance(node.value, ast.Name, (name, node.lineno))
+            self.assertIsNone(node.format_spec, (name, node.lineno))
+
+    def test_no_annotation(self):
+        for name, node in nodes(ast.FunctionDef, ast.arg):
+            told = node.returns if isinstance(node, ast.FunctionDef) else node.annotation
+            self.assertIsNone(told, (name, node.lineno))
+
+    def test_targets_are_single_names(self):
+        for name, node in nodes(ast.Assign):
+            self.assertIsInstance(node.targets[0], (ast.Name, ast.Attribute, ast.Subscript), (name, node.lineno))
+
+    def test_values_at_a_files_top_are_plain(self):
+        for name, tree in trees():
+            for node in tree.body:
+                kinds = (ast.Expr, ast.ImportFrom, ast.FunctionDef, ast.ClassDef, ast.Assign)
+                self.assertIsInstance(node, kinds, (name, node.lineno))
+                if isinstance(node, ast.Assign):
+                    for part in ast.walk(node.value):
+                        self.assertNotIsInstance(part, (ast.Call, ast.ListComp, ast.Lambda), (name, node.lineno))
+
+
 if __name__ == "__main__":
     unittest.main()
