@@ -292,8 +292,9 @@ class TestNarrowerRules(unittest.TestCase):
                 self.assertTrue(taken or isinstance(near, ast.Compare), (name, node.lineno))
 
     def test_methods_are_called_where_they_stand(self):
+        methods = own_methods() | METHODS
         for name, node, around in with_parents():
-            if isinstance(node, ast.Attribute) and node.attr in own_methods() | METHODS:
+            if isinstance(node, ast.Attribute) and node.attr in methods:
                 near = around[0]
                 called = isinstance(near, ast.Call) and near.func is node
                 self.assertTrue(called or isinstance(near, ast.keyword), (name, node.lineno))

@@ -7,6 +7,7 @@ from traitorround.words import count_of, hand_of, is_hand, is_whole, is_word
 MOST_HANDS = 7
 GREATEST_BOUND = 5
 LAST_TURN = 30
+MOST_ROUNDS = 8
 
 
 class Setting:
@@ -49,3 +50,7 @@ def is_lie(thing, many):
 
 def is_turn(thing):
     return is_whole(thing) and 1 <= thing <= LAST_TURN
+
+
+def rounds_of(told, bound):
+    return bound + 1 if told is None else count_of(told, 1, MOST_ROUNDS)
