@@ -1,8 +1,8 @@
 """The oral way: what each hand holds for each path is written on, and a tree of it tells the hand's end."""
 
-from traitorround.hands import Hand
+from traitorround.hands import Hand, with_liars
 from traitorround.paths import paths
-from traitorround.plays import TownPlay
+from traitorround.plays import Play
 from traitorround.settings import rounds_of
 from traitorround.trees import grown
 from traitorround.words import STILL, hand_of, word_of
@@ -40,14 +40,17 @@ class OralHand(Hand):
         return self.tree()[2]
 
 
-class Oral(TownPlay):
+class Oral(Play):
     def __init__(self, setting, sender, word, rounds=None):
-        many = setting.many
-        hand_of(sender, many)
+        hand_of(sender, setting.many)
         word_of(word)
         turns = rounds_of(rounds, setting.bound)
-        hands = [OralHand(hand, many, turns, sender, word if hand == sender else None) for hand in range(many)]
-        TownPlay.__init__(self, setting, hands, turns)
+        hands = oral_hands(setting.many, turns, sender, word)
+        Play.__init__(self, hands, with_liars(hands, setting), turns)
 
     def tree(self, hand):
         return self.hand_at(hand).tree()
+
+
+def oral_hands(many, rounds, sender, word):
+    return [OralHand(hand, many, rounds, sender, word if hand == sender else None) for hand in range(many)]

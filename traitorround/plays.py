@@ -1,14 +1,14 @@
-"""What the plays of the oral way and of kings have in common: a town of hands, some of which lie."""
+"""What the plays of the ways that are played in a town have in common."""
 
-from traitorround.hands import with_liars
 from traitorround.town import run
 from traitorround.words import hand_of
 
 
-class TownPlay:
-    def __init__(self, setting, hands, rounds):
+class Play:
+    # A hand may stand in the town within a liar or a crasher; what it holds is asked of the hand itself.
+    def __init__(self, hands, town, rounds):
         self.hands = hands
-        self.sent = run(with_liars(hands, setting), rounds)
+        self.sent = run(town, rounds)
 
     def hand_at(self, thing):
         return self.hands[hand_of(thing, len(self.hands))]
