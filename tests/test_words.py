@@ -2,12 +2,10 @@ import copy
 import itertools
 import unittest
 
+from things import NEAR, TOP, Alike
+
 from traitorround.errors import NoCount, NoHand, NoWord, RoundError
 from traitorround.words import count_of, hand_of, is_whole, is_word, most, strong, tally, times, word_of
-
-# The greatest word, and the one beside it, which differ in the last figure alone.
-TOP = 10 ** 60 - 1
-NEAR = 10 ** 60 - 2
 
 WHOLES = [
     0, 1, -1, 2, 6, 7, 30, -30, 2 ** 31, 2 ** 63, 2 ** 64, -2 ** 64, 10 ** 59, -10 ** 59, NEAR, TOP, -NEAR, -TOP,
@@ -15,25 +13,11 @@ WHOLES = [
 ]
 
 
-class Strange:
-    def __eq__(self, other):
-        return True
-
-    def __int__(self):
-        return 1
-
-    def __index__(self):
-        return 1
-
-    def __hash__(self):
-        return 1
-
-
 def others():
     return [
         True, False, None, "", "0", "7", "-7", "seven", "7" * 61, [], [1], [[1], None], (), (1,), (1, 2), {}, {1: 2},
         {0: [1]}, 0.0, 1.0, 1.5, float("inf"), float("nan"), 1j, b"", b"7", {1}, frozenset([1]), range(3), object(),
-        int, bool, len, Strange(),
+        int, bool, len, Alike(),
     ]
 
 
